@@ -79,7 +79,8 @@ func simple(p Poly, unit int64) ([]Root, bool) {
 	// search finds the roots that are greater than lo/unit and at most hi/unit, from the changes of sign at both places.
 	var search func(lo, hi int64, before, after int)
 	search = func(lo, hi int64, before, after int) {
-		switch count := before - after; {
+		count := before - after
+		switch {
 		case count == 0:
 		case count == 1 || hi-lo == 1:
 			roots = append(roots, settled(p, unit, lo, hi, count)...)
